@@ -1,0 +1,1 @@
+"""Tilldrawer: a till that gives exact change by the fewest pieces."""
