@@ -95,6 +95,36 @@ def best_change(till, ways):
     return [(value, many) for (value, _), many in zip(till, best) if many > 0]
 
 
+def all_deals(till, purse):
+    """For each worth that ways to deal have, all of these ways: a number for each kind of the till."""
+    held = dict(purse)
+    found = {}
+    spans = [range(-count, held.get(value, 0) + 1) for value, count in till]
+    for numbers in itertools.product(*spans):
+        made = sum(value * number for (value, _), number in zip(till, numbers))
+        found.setdefault(made, []).append(numbers)
+    return found
+
+
+def best_deal(till, ways):
+    """Of all ways of one worth the deal that point 12 promises."""
+    # Fewest first; then, from the greatest value on, the one with the greater number.
+    best = min(ways, key=lambda numbers: (way_pieces(numbers), [-number for number in reversed(numbers)]))
+    handed = [(value, number) for (value, _), number in zip(till, best) if number > 0]
+    back = [(value, -number) for (value, _), number in zip(till, best) if number < 0]
+    return handed, back
+
+
+def way_pieces(numbers):
+    """How many pieces change hands by a way to deal."""
+    return sum(abs(number) for number in numbers)
+
+
+def single_pieces(pairs):
+    """The value of each piece, one behind the other."""
+    return [value for value, count in pairs for _ in range(count)]
+
+
 def slow_table(till, most):
     """The table by trying, kind by kind, each count that may be given."""
     rows = [[0] + [None] * most]

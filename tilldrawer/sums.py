@@ -17,7 +17,7 @@ def table(till, most):
     row = [0] + [None] * most
     rows = [row]
     for value, count in till:
-        row = _with_kind(row, value, count)
+        row = with_kind(row, value, count)
         rows.append(row)
     return rows
 
@@ -44,8 +44,8 @@ def fewest(till, due):
     return change[::-1]
 
 
-def _with_kind(row, value, count):
-    """The row behind this one, of one kind more."""
+def with_kind(row, value, count):
+    """The row behind this one, of one kind more: each of up to so many pieces moves up by the value."""
     out = list(row)
     usable = min(count, (len(row) - 1) // value)
     for size in _bundles(usable):
